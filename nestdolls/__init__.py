@@ -1,0 +1,1 @@
+"""Nestdolls: hollow dolls within one another, on a table of few spots."""
