@@ -27,11 +27,16 @@ def is_standing(thing):
     """Whether a thing, which may be anything, is a standing of one to six dolls."""
     if not isinstance(thing, tuple) or not all(is_stack(stack) for stack in thing):
         return False
-    dolls = sorted([doll for stack in thing for doll in stack])
+    dolls = dolls_of(thing)
     many = len(dolls)
     if many < 1 or many > MOST_DOLLS:
         return False
     return dolls == list(range(1, many + 1)) and is_rising(thing)
+
+
+def dolls_of(standing):
+    """All dolls of a standing, in order."""
+    return sorted([doll for stack in standing for doll in stack])
 
 
 def standings(many):
@@ -42,6 +47,11 @@ def standings(many):
     for doll in range(1, many + 1):
         told = [grown for standing in told for grown in grown_by(standing, doll)]
     return sorted(told)
+
+
+def standings_beside(standing, spots):
+    """All standings of as many dolls as a standing, with no more stacks than spots, rising."""
+    return [other for other in standings(len(dolls_of(standing))) if len(other) <= spots]
 
 
 def grown_by(standing, doll):

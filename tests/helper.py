@@ -1,10 +1,12 @@
-"""What the tests share: a second way to reckon standings and moves, and odd things.
+"""What the tests share: a second way to reckon all that is told, and odd things.
 
 Nothing here calls the program. A standing is seen as a dict from each doll to
 the doll right around it, None for one on a spot.
 """
 
+import functools
 import itertools
+import math
 import random
 
 
@@ -41,6 +43,7 @@ def standing_of(outer):
     return tuple(sorted(stacks))
 
 
+@functools.lru_cache(maxsize=None)
 def steps(standing, spots):
     """A dict from each move that can be done to the standing behind it."""
     outer = around(standing)
@@ -74,6 +77,127 @@ def walk(standing, spots, length, seed):
         row.append(move)
         standing = ahead[move]
     return row, standing
+
+
+@functools.lru_cache(maxsize=None)
+def graph(many, spots):
+    """A dict from each standing of at most so many stacks, rising, to its steps."""
+    return {standing: steps(standing, spots) for standing in ALL[many] if len(standing) <= spots}
+
+
+def count(standing):
+    return sum(len(stack) for stack in standing)
+
+
+def flood(standing, spots):
+    """All standings to which one comes."""
+    found = {standing}
+    edge = [standing]
+    while edge:
+        edge = [there for here in edge for there in steps(here, spots).values() if there not in found]
+        found.update(edge)
+    return found
+
+
+def price(move, prices):
+    kind, *dolls = move
+    return prices[dolls[0 if kind == "open" else 1] - 1]
+
+
+def best_rows(goal, spots, prices):
+    """A dict from each standing that comes to a goal to (toil, length, row) of the best row.
+
+    Rows are made better from the goal backwards, till none can be made better.
+    """
+    best = {goal: (0, 0, [])}
+    better = True
+    while better:
+        better = False
+        for here, ahead in graph(count(goal), spots).items():
+            for move, there in ahead.items():
+                if there in best:
+                    toil, length, row = best[there]
+                    offer = (toil + price(move, prices), length + 1, [move, *row])
+                    if here not in best or offer < best[here]:
+                        best[here] = offer
+                        better = True
+    return best
+
+
+def plain_rows(standing, spots, seen=()):
+    """Each row from a standing that comes to no standing twice, with the standing behind it."""
+    yield [], standing
+    for move, there in steps(standing, spots).items():
+        if there not in seen and there != standing:
+            for row, end in plain_rows(there, spots, (*seen, standing)):
+                yield [move, *row], end
+
+
+def is_paper(goal, spots, prices, thing):
+    """Whether a tuple, list or other thing is a paper to a goal, by its edges."""
+    ahead = graph(count(goal), spots)
+    if type(thing) is not tuple or any(type(row) is not tuple or len(row) != 2 for row in thing):
+        return False
+    if [repr(row[0]) for row in thing] != [repr(standing) for standing in ahead]:
+        return False
+    if any(number is not None and type(number) is not int for _, number in thing):
+        return False
+    numbers = {here: math.inf if number is None else number for here, number in thing}
+    return numbers[goal] <= 0 and all(
+        numbers[here] <= price(move, prices) + numbers[there]
+        for here in ahead if here != goal for move, there in ahead[here].items()
+    )
+
+
+def is_fencing(standing, other, spots, posts):
+    """Whether a tuple of standings is a fence."""
+    if list(posts) != sorted(set(posts)) or any(count(post) != count(standing) for post in posts):
+        return False
+    if standing not in posts or other in posts or any(len(post) > spots for post in posts):
+        return False
+    return all(there in posts for post in posts for there in steps(post, spots).values())
+
+
+def all_orders(standing):
+    """All orders, rising."""
+    outer = around(standing)
+    return [
+        order for order in itertools.permutations(sorted(outer))
+        if all(outer[doll] is None or outer[doll] in order[:at] for at, doll in enumerate(order))
+    ]
+
+
+def wait(order, prices, chances):
+    return sum(
+        chances[doll - 1] * sum(prices[ahead - 1] for ahead in order[:at + 1]) for at, doll in enumerate(order)
+    )
+
+
+def partings(dolls):
+    """All ways to part a tuple into tuples, none empty."""
+    if not dolls:
+        return [()]
+    return [(dolls[:end], *rest) for end in range(1, len(dolls) + 1) for rest in partings(dolls[end:])]
+
+
+def some_numbers(many, low, high, seed):
+    chance = random.Random(f"{many} {low} {high} {seed}")
+    return tuple(chance.randint(low, high) for _ in range(many))
+
+
+def some_prices(many):
+    """Prices alike and unlike: rising, falling, by chance, few and many alike."""
+    told = [(1,) * many, (100,) * many, tuple(range(1, many + 1)), tuple(range(100, 100 - many, -1))]
+    told += [some_numbers(many, 1, 2, 0), some_numbers(many, 1, 5, 1), some_numbers(many, 1, 100, 2)]
+    return list(dict.fromkeys(told))
+
+
+def shown(thing):
+    """The repr of a thing, which tells 1 from True and lists from tuples, of any depth."""
+    try:
+        return repr(thing)
+    except RecursionError:
+        return "too deep"
 
 
 def deep(kind, levels):
